@@ -1,0 +1,1 @@
+"""Culverts: where the water of a road's low stretches can go under it."""
