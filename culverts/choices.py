@@ -14,8 +14,13 @@ def has_one(stretch, row):
     return any([stretch.covers(station) for station in row])
 
 
+def missed_numbers(ground, row):
+    """The stretches that have none of the culverts, rising."""
+    return [number for number, stretch in enumerate(ground.stretches) if not has_one(stretch, row)]
+
+
 def they_do(ground, row):
-    return all([has_one(stretch, row) for stretch in ground.stretches])
+    return len(missed_numbers(ground, row)) == 0
 
 
 def some_do(ground):

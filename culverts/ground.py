@@ -29,6 +29,14 @@ class Ground:
         self.prices = []
         self.stretches = []
 
+    def twin(self):
+        """Another ground like this one, to be changed without changing this one."""
+        other = Ground()
+        other.rocky = list(self.rocky)
+        other.prices = list(self.prices)
+        other.stretches = [Stretch(each.first, each.last, each.flow) for each in self.stretches]
+        return other
+
     def is_begun(self):
         return len(self.rocky) > 0
 
@@ -41,6 +49,9 @@ class Ground:
     def is_site(self, station):
         """Whether a culvert can be there."""
         return self.has_station(station) and not self.rocky[station]
+
+    def rock_count(self):
+        return self.rocky.count(True)
 
     def sites(self):
         return [station for station in range(len(self.rocky)) if self.is_site(station)]
@@ -86,7 +97,7 @@ class Ground:
         if self.rocky[station] == there:
             return ALREADY_SO
         self.rocky[station] = there
-        return self.rocky.count(True)
+        return self.rock_count()
 
     def price(self, station, cost):
         if not self.has_station(station):

@@ -1,16 +1,19 @@
 """The calls on one road, read from a list of numbers and answered as one."""
 
+from culverts.carrying import all_goes, fewest_carrying, is_room, least_room, shares, too_much
 from culverts.choices import (
     apart_numbers,
     are_culverts,
+    by_ends,
     fewest_row,
     least_row,
+    missed_numbers,
     payments,
     some_do,
     they_do,
 )
 from culverts.ground import Ground
-from culverts.refusals import CANNOT_BE, NOT_BEGUN, OUT_OF_RANGE
+from culverts.refusals import ALREADY_SO, CANNOT_BE, NONE_SUCH, NOT_BEGUN, OUT_OF_RANGE
 
 BEGIN = 0
 
@@ -53,18 +56,21 @@ def price(ground, numbers, row):
     return [ground.price(numbers[0], numbers[1])]
 
 
-def fewest(ground, numbers, row):
-    found = fewest_row(ground)
+def counted(found):
+    """How many there are, then these; refused if nothing could be found."""
     if found is None:
         return [CANNOT_BE]
     return [len(found)] + found
 
 
+def fewest(ground, numbers, row):
+    return counted(fewest_row(ground))
+
+
 def apart(ground, numbers, row):
     if not some_do(ground):
         return [CANNOT_BE]
-    taken = apart_numbers(ground)
-    return [len(taken)] + taken
+    return counted(apart_numbers(ground))
 
 
 def cheapest(ground, numbers, row):
@@ -87,6 +93,96 @@ def hits(ground, numbers, row):
     return [1 if they_do(ground, row) else 0]
 
 
+def missed(ground, numbers, row):
+    if not are_culverts(ground, row):
+        return [OUT_OF_RANGE]
+    return counted(missed_numbers(ground, row))
+
+
+def can_take(ground, room, row):
+    """Whether these are culverts, and each may take so much."""
+    return is_room(room) and are_culverts(ground, row)
+
+
+def carries(ground, numbers, row):
+    if not can_take(ground, numbers[0], row):
+        return [OUT_OF_RANGE]
+    return [1 if all_goes(ground, numbers[0], row) else 0]
+
+
+def why(ground, numbers, row):
+    if not can_take(ground, numbers[0], row):
+        return [OUT_OF_RANGE]
+    found = too_much(ground, numbers[0], row)
+    return [ALREADY_SO] if found is None else found
+
+
+def share(ground, numbers, row):
+    if not can_take(ground, numbers[0], row):
+        return [OUT_OF_RANGE]
+    if not all_goes(ground, numbers[0], row):
+        return [CANNOT_BE]
+    parts = shares(ground, numbers[0], row)
+    told = [len(parts)]
+    for part in parts:
+        told.extend(part)
+    return told
+
+
+def leastroom(ground, numbers, row):
+    if not are_culverts(ground, row):
+        return [OUT_OF_RANGE]
+    room = least_room(ground, row)
+    return [CANNOT_BE if room is None else room]
+
+
+def fewestfor(ground, numbers, row):
+    if not is_room(numbers[0]):
+        return [OUT_OF_RANGE]
+    return counted(fewest_carrying(ground, numbers[0]))
+
+
+def without(ground, numbers, row):
+    if not ground.has_stretch(numbers[0]):
+        return [NONE_SUCH]
+    other = ground.twin()
+    other.drop(numbers[0])
+    return counted(fewest_row(other))[:1]
+
+
+def ifrock(ground, numbers, row):
+    if not ground.has_station(numbers[0]):
+        return [NONE_SUCH]
+    # Rock that is there already is no refusal here: then all is as it is.
+    other = ground.twin()
+    other.set_rock(numbers[0], True)
+    return counted(fewest_row(other))[:1]
+
+
+def at(ground, numbers, row):
+    station = numbers[0]
+    if not ground.has_station(station):
+        return [NONE_SUCH]
+    count = len([stretch for stretch in ground.stretches if stretch.covers(station)])
+    return [1 if ground.rocky[station] else 0, ground.prices[station], count]
+
+
+def look(ground, numbers, row):
+    if not ground.has_stretch(numbers[0]):
+        return [NONE_SUCH]
+    stretch = ground.stretches[numbers[0]]
+    return [stretch.first, stretch.last, stretch.flow]
+
+
+def byend(ground, numbers, row):
+    return counted(by_ends(ground.stretches))
+
+
+def state(ground, numbers, row):
+    flow = sum([stretch.flow for stretch in ground.stretches])
+    return [0, len(ground.rocky), ground.rock_count(), len(ground.stretches), flow]
+
+
 # By the call's number: what answers it, how many whole numbers it has, whether a row follows.
 CALLS = (
     (begin, 1, False),
@@ -101,6 +197,18 @@ CALLS = (
     (cheapest, 0, False),
     (pays, 0, False),
     (hits, 0, True),
+    (missed, 0, True),
+    (carries, 1, True),
+    (why, 1, True),
+    (share, 1, True),
+    (leastroom, 0, True),
+    (fewestfor, 1, False),
+    (without, 1, False),
+    (ifrock, 1, False),
+    (at, 1, False),
+    (look, 1, False),
+    (byend, 0, False),
+    (state, 0, False),
 )
 
 

@@ -3,15 +3,26 @@
 import unittest
 
 from helper import (
-    ALREADY_SO, APART, CHEAPEST, FEWEST, GREATEST, LOOKS, NONE_SUCH, NOT_BEGUN, OUT_OF_RANGE, PAYS,
-    TOO_MANY, ask, begin, drop, hits, last, low, norock, price, reveal, rock, water,
+    ALREADY_SO, APART, BYEND, CHEAPEST, FEWEST, GREATEST, GREATEST_IN_ROW, LOOKS, NONE_SUCH, NOT_BEGUN, OUT_OF_RANGE,
+    PAYS, STATE, TOO_MANY, ask, at, begin, behind, carries, drop, fewestfor, hits, ifrock, last, leastroom, look, low,
+    missed, norock, overview, price, reveal, rock, share, water, why, without,
 )
 
 EIGHT = [low(i, i) for i in range(8)]
+FAR_ROW = [GREATEST_IN_ROW] * 40
+
+# Each call but begin, with what could be right and what can't.
 OTHERS = LOOKS + [
     low(0, 1), drop(0), water(0, 1), rock(0), norock(0), price(0, 1), hits(), hits(0), hits(5, 1),
     low(GREATEST, GREATEST, GREATEST), drop(GREATEST), water(GREATEST, GREATEST), rock(GREATEST),
-    norock(GREATEST), price(GREATEST, GREATEST), hits(*[65535] * 40),
+    norock(GREATEST), price(GREATEST, GREATEST), hits(*FAR_ROW),
+    missed(), missed(0), missed(5, 1), missed(*FAR_ROW), leastroom(), leastroom(0), leastroom(5, 1), leastroom(*FAR_ROW),
+    carries(1), carries(0), carries(160, 0), carries(GREATEST, *FAR_ROW),
+    why(1), why(0), why(160, 0), why(GREATEST, *FAR_ROW),
+    share(1), share(0), share(160, 0), share(GREATEST, *FAR_ROW),
+    fewestfor(1), fewestfor(160), fewestfor(0), fewestfor(161), fewestfor(GREATEST),
+    without(0), without(GREATEST), ifrock(0), ifrock(GREATEST), at(0), at(GREATEST), look(0), look(GREATEST),
+    BYEND, STATE,
 ]
 
 
@@ -43,6 +54,7 @@ class Begin(unittest.TestCase):
 
 class NotBegun(unittest.TestCase):
     def test_each_other_call_ahead_of_begin(self):
+        self.assertEqual({call[0] for call in OTHERS}, set(range(1, 24)))
         for call in OTHERS:
             self.assertEqual(last(call), NOT_BEGUN)
 
@@ -198,24 +210,52 @@ class NothingChanged(unittest.TestCase):
         [begin(4), *[rock(s) for s in range(4)], low(0, 3, 2)],
     )
 
+    ROOMS = (0, 1, 7, 159, 160, 161, GREATEST)
+    ROWS = ((), (0,), (1,), (0, 1), (0, 1, 3), range(8), (1, 0), (0, 0), (3,), (GREATEST_IN_ROW,), range(40), FAR_ROW)
+    PLACES = (*range(13), GREATEST)
+
+    def all_looks(self):
+        found = [*LOOKS, BYEND, STATE, *[fewestfor(k) for k in self.ROOMS]]
+        for row in self.ROWS:
+            found += [hits(*row), missed(*row), leastroom(*row)]
+            found += [call(k, *row) for call in (carries, why, share) for k in self.ROOMS]
+        for place in self.PLACES:
+            found += [without(place), ifrock(place), at(place), look(place)]
+        return found
+
     def test_by_what_is_refused(self):
         tried = [begin(0), begin(13), low(0, 12), low(1, 0), low(0, 0, 0), low(0, 1, 21), low(0, 0, 1), drop(8), drop(0),
                  water(8, 5), water(0, 0), water(0, 21), rock(12), norock(12), price(12, 1), price(0, 0), price(0, 10),
-                 *[rock(s) for s in range(8)], *[norock(s) for s in range(8)], hits(1, 0), hits(0, 0), hits(65535)]
+                 *[rock(s) for s in range(8)], *[norock(s) for s in range(8)]]
         for setup in self.SETUPS:
             before = reveal(*setup)
             for call in tried:
                 if last(*setup, call)[0] < 0:
                     self.assertEqual(reveal(*setup, call), before, call)
 
-    def test_by_looking(self):
-        looks = [*LOOKS, hits(), hits(0), hits(0, 1), hits(*range(8)), hits(2, 5), hits(1, 0)]
+    def test_by_looking_refused_or_not(self):
+        looks = self.all_looks()
+        self.assertEqual({call[0] for call in looks}, {7, 8, 9, 10, *range(11, 24)})
+        for setup in self.SETUPS:
+            before = overview(*setup)
+            for call in looks:
+                self.assertEqual(overview(*setup, call), before, call)
+
+    def test_by_many_looks_on_one_line(self):
+        looks = self.all_looks()
         for setup in self.SETUPS:
             before = reveal(*setup)
-            for call in looks:
-                self.assertEqual(reveal(*setup, call), before, call)
-            twice = ask(*setup, *looks, *looks)[len(setup):]
-            self.assertEqual(twice[:len(looks)], twice[len(looks):])
+            for start in range(0, len(looks), 100):
+                some = looks[start:start + 100]
+                self.assertEqual(reveal(*setup, *some), before)
+                self.assertEqual(behind(setup, *some, *some), behind(setup, *some) * 2)
+
+    def test_by_asking_what_would_be(self):
+        setup = [begin(5), low(0, 2, 4), low(2, 4, 6), rock(1), price(2, 7)]
+        for call in (without(0), without(1), without(2), ifrock(0), ifrock(1), ifrock(2), ifrock(5)):
+            self.assertEqual(reveal(*setup, call), reveal(*setup), call)
+        self.assertEqual(behind(setup, ifrock(2), norock(2), rock(2), without(0), drop(1), look(0), drop(0), drop(0)),
+                         [[2], ALREADY_SO, [2], [1], [1], [0, 2, 4], [0], NONE_SUCH])
 
     def test_the_payments_leave_the_prices(self):
         calls = [begin(3), low(0, 1), low(1, 2), price(1, 5), PAYS, PAYS, CHEAPEST, APART, price(1, 1)]

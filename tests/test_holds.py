@@ -5,215 +5,10 @@ import unittest
 
 from culverts.roads import answers
 from helper import (
-    APART, CHEAPEST, FEWEST, GREATEST, LOOKS, PAYS, ask, begin, drop, hits, last, low, norock, price, rock, split, water,
+    APART, BYEND, CHEAPEST, FEWEST, LOOKS, PAYS, STATE, Model, Numbers, any_call, ask, at, begin, behind, call_of,
+    carries, fewestfor, ground, hits, ifrock, last, leastroom, look, low, missed, model_after, norock, price, rock,
+    share, split, why, without,
 )
-
-
-class Numbers:
-    """Numbers that look like chance but are the same each time."""
-
-    def __init__(self, seed):
-        self.value = seed
-
-    def below(self, bound):
-        self.value = (self.value * 6364136223846793005 + 1442695040888963407) % 2 ** 64
-        return (self.value >> 33) % bound
-
-    def one_of(self, choices):
-        return choices[self.below(len(choices))]
-
-
-class Model:
-    """The object in the document's own words, with no thought of speed."""
-
-    def __init__(self):
-        self.n = 0
-
-    def sites(self):
-        return [s for s in range(self.n) if s not in self.rock]
-
-    def has(self, i):
-        x, y, _ = self.low[i]
-        return [s for s in self.sites() if x <= s <= y]
-
-    def do(self, row):
-        return all(set(self.has(i)) & set(row) for i in range(len(self.low)))
-
-    def rows_that_do(self):
-        sites = self.sites()
-        rows = [list(row) for k in range(len(sites) + 1) for row in itertools.combinations(sites, k)]
-        return [row for row in rows if self.do(row)]
-
-    def ends(self):
-        return sorted(range(len(self.low)), key=lambda i: (self.low[i][1], i))
-
-    def answer(self, call):
-        if call[0] == 0:
-            return self.begin(call[1])
-        if self.n == 0:
-            return [-11]
-        if call[0] == 11:
-            return self.hits(call[2:])
-        names = [None, self.add, self.drop, self.water, self.set_rock, self.norock, self.price,
-                 self.fewest, self.apart, self.cheapest, self.pays]
-        return names[call[0]](*call[1:])
-
-    def begin(self, n):
-        if n not in range(2, 13):
-            return [-22]
-        self.n = n
-        self.rock = set()
-        self.cost = {s: 1 for s in range(n)}
-        self.low = []
-        return [0]
-
-    def add(self, x, y, q):
-        if y >= self.n or y < x or q not in range(1, 21):
-            return [-22]
-        if len(self.low) == 8:
-            return [-28]
-        self.low.append((x, y, q))
-        return [len(self.low) - 1]
-
-    def drop(self, i):
-        if i >= len(self.low):
-            return [-2]
-        self.low = self.low[:i] + self.low[i + 1:]
-        return [len(self.low)]
-
-    def water(self, i, q):
-        if i >= len(self.low):
-            return [-2]
-        if q not in range(1, 21):
-            return [-22]
-        x, y, before = self.low[i]
-        self.low[i] = (x, y, q)
-        return [before]
-
-    def set_rock(self, s):
-        if s >= self.n:
-            return [-2]
-        if s in self.rock:
-            return [-17]
-        self.rock.add(s)
-        return [len(self.rock)]
-
-    def norock(self, s):
-        if s >= self.n:
-            return [-2]
-        if s not in self.rock:
-            return [-17]
-        self.rock.remove(s)
-        return [len(self.rock)]
-
-    def price(self, s, c):
-        if s >= self.n:
-            return [-2]
-        if c not in range(1, 10):
-            return [-22]
-        before = self.cost[s]
-        self.cost[s] = c
-        return [before]
-
-    def fewest(self):
-        rows = self.rows_that_do()
-        if not rows:
-            return [-33]
-        best = min(rows, key=lambda row: (len(row), row))
-        return [len(best)] + best
-
-    def cheapest(self):
-        rows = self.rows_that_do()
-        if not rows:
-            return [-33]
-        cost, best = min((sum(self.cost[s] for s in row), row) for row in rows)
-        return [cost] + best
-
-    def apart(self):
-        if not self.do(self.sites()):
-            return [-33]
-        taken = []
-        for i in self.ends():
-            if not any(set(self.has(i)) & set(self.has(other)) for other in taken):
-                taken.append(i)
-        return [len(taken)] + taken
-
-    def pays(self):
-        if not self.do(self.sites()):
-            return [-33]
-        left = dict(self.cost)
-        paid = {}
-        for i in self.ends():
-            paid[i] = min(left[s] for s in self.has(i))
-            for s in self.has(i):
-                left[s] -= paid[i]
-        return [sum(paid.values())] + [paid[i] for i in range(len(self.low))]
-
-    def hits(self, row):
-        if row != sorted(set(row)) or not set(row) <= set(self.sites()):
-            return [-22]
-        return [int(self.do(row))]
-
-
-def model_after(calls):
-    model = Model()
-    for call in calls:
-        model.answer(call)
-    return model
-
-
-def ground(numbers, most):
-    """Calls that lay out a road of at most so many stations."""
-    n = 2 + numbers.below(most - 1)
-    calls = [begin(n)]
-    for s in range(n):
-        if numbers.below(4) == 0:
-            calls.append(rock(s))
-        if numbers.below(2) == 0:
-            calls.append(price(s, 1 + numbers.below(9)))
-    for _ in range(numbers.below(9)):
-        x = numbers.below(n)
-        calls.append(low(x, x + numbers.below(n - x), 1 + numbers.below(20)))
-    return calls
-
-
-def any_number(numbers, most):
-    """Mostly one that is near what is allowed, sometimes one far off."""
-    if numbers.below(12) == 0:
-        return numbers.one_of([0, most, most + 1, 65535, 65536, GREATEST - 1, GREATEST])
-    return numbers.below(most + 1)
-
-
-def any_row(numbers):
-    kind = numbers.below(8)
-    if kind == 0:
-        return [numbers.below(14) for _ in range(numbers.below(41))]
-    if kind == 1:
-        return [numbers.one_of([0, 1, 11, 12, 65535]) for _ in range(numbers.below(4))]
-    return [s for s in range(12) if numbers.below(4) == 0]
-
-
-def any_call(numbers):
-    kind = numbers.below(24)
-    if kind == 0 and numbers.below(4) == 0:
-        return begin(any_number(numbers, 12))
-    if kind <= 5:
-        return low(any_number(numbers, 7), any_number(numbers, 11), any_number(numbers, 20))
-    simple = {
-        6: lambda: drop(any_number(numbers, 8)),
-        7: lambda: water(any_number(numbers, 8), any_number(numbers, 21)),
-        8: lambda: rock(any_number(numbers, 12)),
-        9: lambda: norock(any_number(numbers, 12)),
-        10: lambda: price(any_number(numbers, 12), any_number(numbers, 10)),
-        11: lambda: price(any_number(numbers, 12), any_number(numbers, 10)),
-        12: lambda: rock(any_number(numbers, 12)),
-        13: lambda: norock(any_number(numbers, 12)),
-    }
-    if kind in simple:
-        return simple[kind]()
-    if kind <= 18:
-        return hits(*any_row(numbers))
-    return numbers.one_of(LOOKS)
 
 
 def small_grounds():
@@ -270,14 +65,14 @@ class Holds(unittest.TestCase):
         for calls in many_grounds():
             self.check(calls)
 
-    def test_hits_says_of_every_row_whether_it_does(self):
+    def test_hits_and_missed_say_of_every_row_whether_it_does(self):
         numbers = Numbers(2)
         for _ in range(60):
             calls = ground(numbers, 6)
             model = model_after(calls)
             rows = [row for k in range(model.n + 1) for row in itertools.combinations(range(model.n), k)]
-            found = ask(*calls, *[hits(*row) for row in rows])[len(calls):]
-            self.assertEqual(found, [model.hits(list(row)) for row in rows])
+            self.assertEqual(behind(calls, *[hits(*row) for row in rows]), [model.hits(list(row)) for row in rows])
+            self.assertEqual(behind(calls, *[missed(*row) for row in rows]), [model.missed(list(row)) for row in rows])
 
 
 class Lines(unittest.TestCase):
@@ -288,14 +83,16 @@ class Lines(unittest.TestCase):
 
     def test_many_lines(self):
         numbers = Numbers(3)
-        for _ in range(400):
-            n = 2 + numbers.below(5)
-            self.check([any_call(numbers), begin(n)] + [any_call(numbers) for _ in range(40)])
+        for _ in range(500):
+            n = 2 + numbers.below(6)
+            self.check([any_call(numbers, n), begin(n)] + [any_call(numbers, n) for _ in range(60)])
 
-    def test_lines_of_256_calls(self):
+    def test_lines_of_256_calls_of_all_24_kinds(self):
         numbers = Numbers(4)
         for n in (2, 5, 8, 12):
-            calls = [begin(n)] + [any_call(numbers) for _ in range(255)]
+            calls = [begin(n)] + [any_call(numbers, n) for _ in range(231)]
+            calls += [call_of(kind, numbers, n) for kind in reversed(range(24))]
+            self.assertEqual({call[0] for call in calls}, set(range(24)))
             self.assertEqual(len(ask(*calls)), 256)
             self.check(calls)
 
@@ -310,8 +107,18 @@ class Lines(unittest.TestCase):
         self.assertEqual(ask(*calls)[len(laid):], [told[i % 4] for i in range(256 - len(laid))])
 
     def test_256_rows_of_40(self):
-        calls = [begin(12)] + [hits(*range(40))] * 255
+        wrong = [hits(*range(40)), missed(*range(40)), carries(5, *range(40)), why(5, *range(40)),
+                 share(5, *range(40)), leastroom(*range(40))]
+        calls = [begin(12)] + [wrong[i % 6] for i in range(255)]
         self.assertEqual(ask(*calls), [[0]] + [[-22]] * 255)
+
+    def test_256_fewest_for_at_the_longest_road(self):
+        laid = [begin(12), *[low(x, x + 4, 20) for x in range(8)]]
+        model = model_after(laid)
+        rooms = [8, 20, 30, 160]
+        found = {k: model.fewestfor(k) for k in rooms}
+        calls = [fewestfor(rooms[i % 4]) for i in range(256 - len(laid))]
+        self.assertEqual(behind(laid, *calls), [found[call[1]] for call in calls])
 
 
 class HandedIn(unittest.TestCase):
@@ -319,7 +126,7 @@ class HandedIn(unittest.TestCase):
         numbers = Numbers(5)
         for _ in range(100):
             yield [number for call in ground(numbers, 12) for number in call] + [
-                number for _ in range(20) for number in any_call(numbers)]
+                number for _ in range(20) for number in any_call(numbers, 12)]
 
     def test_the_list_is_as_it_was(self):
         for line in self.lines():
@@ -358,6 +165,15 @@ class HandedIn(unittest.TestCase):
         line = FEWEST + begin(3) + low(0, 1, 4) + low(2, 2, 5) + FEWEST + APART + CHEAPEST + PAYS + hits(0, 2) + rock(2)
         self.assertEqual(answers(line + FEWEST), [
             1, -11, 1, 0, 1, 0, 1, 1, 3, 2, 0, 2, 3, 2, 0, 1, 3, 2, 0, 2, 3, 2, 1, 1, 1, 1, 1, 1, 1, -33])
+
+    def test_a_count_ahead_of_each_answer_of_the_other_calls(self):
+        line = STATE + begin(3) + low(0, 1, 4) + low(2, 2, 5)
+        self.assertEqual(answers(line), [1, -11, 1, 0, 1, 0, 1, 1])
+        line += missed(0) + carries(5, 0, 2) + why(4, 0, 2) + why(5, 0, 2) + share(5, 0, 2) + share(4, 0, 2)
+        line += leastroom(0, 2) + fewestfor(5) + without(0) + ifrock(2) + at(2) + look(1) + BYEND + STATE + look(2)
+        self.assertEqual(answers(line)[8:], [
+            2, 1, 1, 1, 1, 4, 0, 2, 9, 8, 1, -17, 7, 2, 0, 0, 4, 1, 2, 5, 1, -33,
+            1, 5, 3, 2, 0, 2, 1, 1, 1, -33, 3, 0, 1, 1, 3, 2, 2, 5, 3, 2, 0, 1, 5, 0, 3, 0, 2, 9, 1, -2])
 
     def test_only_first_answers_are_below_0(self):
         for line in self.lines():
